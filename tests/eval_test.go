@@ -1237,11 +1237,18 @@ func randomFace(r *rand.Rand, name string, last bool) impl.Face {
 // randomText is a module that mostly does something; of the last one main is
 // the last procedure.
 func randomText(r *rand.Rand, name string, faces []impl.Face, last bool) impl.Module {
+	return shapedText(r, name, faces, last, func(impl.Proc) {})
+}
+
+// shapedText lets shape change the parameters of each procedure, ahead of its
+// body.
+func shapedText(r *rand.Rand, name string, faces []impl.Face, last bool, shape func(q impl.Proc)) impl.Module {
 	for {
 		m := randomModule(r, 20+r.Intn(90))
 		m.Name = []byte(name)
 		for i := range m.Procs {
 			m.Procs[i].Open = r.Intn(4) > 0
+			shape(m.Procs[i])
 		}
 		nodes := 40
 		m.Procs = append(m.Procs, impl.Proc{Open: true, Body: append(randomStmts(r, &nodes, 1), randomStmts(r, &nodes, 1)...)})
