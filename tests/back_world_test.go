@@ -10,9 +10,11 @@ import (
 	"loop.example/g00335/impl"
 )
 
-// program is texts and objects of any bytes beside each other: what Run takes,
-// which of them are wild, and their world, which lacks its script.
+// program is texts and objects of any bytes beside each other: what Make takes
+// and what it makes, which of them are wild, and their world, which lacks its
+// script.
 type program struct {
+	parts []impl.Part
 	objs  []impl.Object
 	wild  []bool
 	world impl.World
@@ -21,14 +23,14 @@ type program struct {
 func (p *program) addText(m impl.Module) int {
 	o, code := impl.Compile(m, p.world.Faces)
 	if code == impl.CompWell {
-		p.objs, p.wild = append(p.objs, o), append(p.wild, false)
+		p.parts, p.objs, p.wild = append(p.parts, textPart(textByRule(m))), append(p.objs, o), append(p.wild, false)
 		p.world.Mods, p.world.Faces = append(p.world.Mods, m), append(p.world.Faces, faceByRule(m))
 	}
 	return code
 }
 
 func (p *program) addWild(o impl.Object, f impl.Face) {
-	p.objs, p.wild = append(p.objs, o), append(p.wild, true)
+	p.parts, p.objs, p.wild = append(p.parts, bytesPart(o, f)), append(p.objs, o), append(p.wild, true)
 	p.world.Mods, p.world.Faces = append(p.world.Mods, impl.Module{}), append(p.world.Faces, f)
 }
 
@@ -138,10 +140,10 @@ func (p program) text() string {
 	return text
 }
 
-// wantPromise12 runs it with that fuel, which is at most 2000.
+// wantPromise12 makes and runs it with that fuel, which is at most 2000.
 func wantPromise12(t *testing.T, p program, input []int, fuel int) impl.Result {
 	t.Helper()
-	r := impl.Run(p.objs, input, fuel)
+	r := impl.RunParts(p.parts, input, fuel)
 	if told := p.broken(r, input); told != "" {
 		t.Fatalf("with input %v and fuel %d\n%s\nscript: %s\n%s of\n%s", input, fuel, outcomeText(outcomeOf(r)), scriptOf(r, p.wild), told, p.text())
 	}

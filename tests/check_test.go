@@ -147,11 +147,15 @@ func faceOkByRule(f impl.Face) bool {
 }
 
 func faceByRule(m impl.Module) impl.Face {
-	var f impl.Face
 	if !moduleOkByRule(m) {
-		return f
+		return impl.Face{}
 	}
-	f.Name = m.Name
+	return openProcs(m)
+}
+
+// openProcs are the face of a module that may be.
+func openProcs(m impl.Module) impl.Face {
+	f := impl.Face{Name: m.Name}
 	for _, q := range m.Procs {
 		if !q.Open {
 			continue
@@ -870,7 +874,7 @@ func faceOfAll(m impl.Module) impl.Face {
 	for i := range m.Procs {
 		m.Procs[i].Open = true
 	}
-	return faceByRule(m)
+	return openProcs(m)
 }
 
 // randomFaces have unlike names; each has some procedures.

@@ -367,7 +367,8 @@ func moduleOkByRule(m impl.Module) bool {
 		}
 		nodes += count
 	}
-	return nodes <= 250 && len(textByRule(m)) <= 3000
+	// Lines end where blanks stand else: the text is as long with blanks alone.
+	return nodes <= 250 && len(strings.Join(tokensByRule(m), " "))+1 <= 3000
 }
 
 func stmtsByRule(l []impl.Stmt, deep int) (int, bool) {
